@@ -60,3 +60,40 @@ class Line:
     def refuse(self):
         """Refuses the next item; if there is none it is missing, and at is the number of items."""
         raise BadText(self.number, self.at)
+
+    def refuse_rest(self):
+        """Refuses the next item if there is one, as one too many."""
+        if self.is_left():
+            self.refuse()
+
+
+class Text:
+    """A text while it is read, line by line. It changes: the lines ahead of at are begun."""
+
+    def __init__(self, text):
+        self.lines = lines_of(text)
+        self.at = 0
+
+    def is_ended(self):
+        """Whether no line is left."""
+        return self.at == len(self.lines)
+
+    def begin(self, words):
+        """Begins the next line, whose first item must be one of these words, and returns it, behind this item."""
+        if self.is_ended():
+            raise BadText(self.at, 0)
+        line = self.lines[self.at]
+        if line.seen() not in words:
+            line.refuse()
+        line.take()
+        self.at += 1
+        return line
+
+    def refuse_rest(self):
+        """Refuses the next line if there is one, as one too many."""
+        if not self.is_ended():
+            raise BadText(self.at, 0)
+
+    def refuse_whole(self):
+        """Refuses the last item of the last line: only the whole shows that it can be no such text."""
+        raise BadText(len(self.lines) - 1, len(self.lines[-1].words) - 1)
