@@ -5,7 +5,7 @@ from gapsame.errors import BadMove, BadNumber, Misfit
 from gapsame.games import bound
 from gapsame.likeness import mark_of
 from gapsame.lines import lines_among
-from gapsame.moves import ahead, distance, done, goes, kind_on, may_go, reach
+from gapsame.moves import ahead, distance, done, kind_on, leaps_from, may_go, reach
 from gapsame.papers import fixed
 from gapsame.positions import need_position
 
@@ -57,20 +57,26 @@ def mark_behind(position, near, move):
 def chosen_by_mark(position, near):
     """The chosen moves by their marks: the first of all that are matched with one another."""
     chosen = {}
-    for hand, _, column, row in position.pieces:
-        if hand == position.turn:
-            for end in ends_of(position, (column, row), near):
-                move = ((column, row), end)
-                chosen.setdefault(mark_behind(position, near, move), move)
+    for move in some_moves(position, near):
+        chosen.setdefault(mark_behind(position, near, move), move)
     return chosen
 
 
+def some_moves(position, near):
+    """Unlike moves that do, near being the bound behind them; some may be matched with one another."""
+    starts = [piece[2:] for piece in position.pieces if piece[0] == position.turn]
+    return [(start, end) for start in starts for end in ends_of(position, start, near)]
+
+
 def ends_of(position, start, near):
-    """Squares to which the piece on start may go, such that these moves do."""
-    ends = list(goes(position, start)[0])
+    """Squares to which the piece on start may go, each told once, such that these moves do."""
+    leaps = leaps_from(position, start)
+    ends = list(leaps)
     for ride in kind_on(position, start).rides:
-        most = reach(position, start, ride)
-        ends.extend([ahead(start, ride, many) for many in far_enough(marks_ahead(position, start, ride), near, most)])
+        far = far_enough(marks_ahead(position, start, ride), near, reach(position, start, ride))
+        squares = [ahead(start, ride, many) for many in far]
+        # A leap may lead along a row or a column, too.
+        ends.extend([square for square in squares if square not in leaps])
     return ends
 
 

@@ -67,15 +67,29 @@ def is_still(position):
 def reached(position):
     """Whether the goal is reached."""
     need_position(position, "position")
-    goal = position.game.goal
-    if goal[0] == "hold":
+    if position.game.goal[0] == "hold":
         return position.turn == 1 and is_held(position)
-    if goal[0] == "take":
-        return not any([hand == 1 and name == goal[1] for hand, name, _, _ in position.pieces])
-    _, side, wanted = goal
-    edge = position.game.edges[SIDES.index(side)]
+    return is_goal_of(position.game, position.pieces)
+
+
+def reaches(position, start, end):
+    """Whether the move from start to end, which may go, reaches the goal."""
+    game, standing = position.game, standing_behind(position, start, end)
+    if game.goal[0] == "hold":
+        # Few moves leave the other lord struck, and this is told sooner than whether it is held.
+        is_near = position.turn == 0 and is_struck_there(game, standing, position.lords[1], 0)
+        return is_near and is_held(done(position, (start, end)))
+    return is_goal_of(game, [thing for thing in standing.values() if thing != "stone"])
+
+
+def is_goal_of(game, pieces):
+    """Whether these pieces reach the goal, one to take or to reach."""
+    if game.goal[0] == "take":
+        return not any([hand == 1 and name == game.goal[1] for hand, name, _, _ in pieces])
+    _, side, wanted = game.goal
+    edge = game.edges[SIDES.index(side)]
     stands = [column if side in ("left", "right") else row
-              for hand, name, column, row in position.pieces if hand == 0 and name == wanted]
+              for hand, name, column, row in pieces if hand == 0 and name == wanted]
     return edge in stands
 
 
@@ -148,23 +162,32 @@ def reach(position, start, ride):
 
 def is_lord_struck(position):
     """Whether the lord of the hand whose turn it is is struck."""
-    return is_struck_there(position, position.standing, position.lords[position.turn])
+    lord = position.lords[position.turn]
+    return is_struck_there(position.game, position.standing, lord, 1 - position.turn)
+
+
+def standing_behind(position, start, end):
+    """What stands on each square behind the move from start to end, which may go."""
+    standing = {square: thing for square, thing in position.standing.items() if square != start}
+    standing[end] = (*position.standing[start][:2], *end)
+    return standing
 
 
 def is_safe(position, start, end):
     """Whether behind the move from start to end, which may go, the own lord is struck by nothing, or is none."""
-    standing = {square: thing for square, thing in position.standing.items() if square != start}
-    standing[end] = (*position.standing[start][:2], *end)
     lord = position.lords[position.turn]
-    return not is_struck_there(position, standing, end if lord == start else lord)
+    if lord == start:
+        lord = end
+    standing = standing_behind(position, start, end)
+    return not is_struck_there(position.game, standing, lord, 1 - position.turn)
 
 
-def is_struck_there(position, standing, lord):
-    """Whether a piece of the hand whose turn it is not strikes the other one's lord, where this is what stands."""
+def is_struck_there(game, standing, lord, hand):
+    """Whether a piece of the hand strikes the other one's lord, None for no lord, where this is what stands."""
     if lord is None:
         return False
-    others = [thing for thing in standing.values() if thing != "stone" and thing[0] != position.turn]
-    return any([strikes(position.game, standing, piece, lord) for piece in others])
+    pieces = [thing for thing in standing.values() if thing != "stone" and thing[0] == hand]
+    return any([strikes(game, standing, piece, lord) for piece in pieces])
 
 
 def has_let(position):

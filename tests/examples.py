@@ -21,6 +21,8 @@ def run_one(case, source, wanted, names):
     """Runs one example, and compares it with the line that stands below it."""
     if wanted.startswith("raises "):
         error = eval(wanted.removeprefix("raises "), dict(vars(errors)))
+        # An error without a field is written with or without its parentheses.
+        error = error() if isinstance(error, type) else error
         with case.assertRaises(errors.FieldError) as caught:
             eval(source, names)
         case.assertIs(caught.exception.__class__, error.__class__)
