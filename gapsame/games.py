@@ -123,10 +123,11 @@ def is_goal(kinds, edges, value):
 
 def is_between(edges, square):
     """Whether the square is beyond none of the edges."""
+    # Written out, as nothing else is asked so often.
     left, right, low, high = edges
     column, row = square
-    return (is_not_above(left, column) and is_not_above(column, right)
-            and is_not_above(low, row) and is_not_above(row, high))
+    return ((left is None or left <= column) and (right is None or column <= right)
+            and (low is None or low <= row) and (high is None or row <= high))
 
 
 def read_parts(told):

@@ -73,12 +73,11 @@ def reached(position):
 
 
 def reaches(position, start, end):
-    """Whether the move from start to end, which may go, reaches the goal."""
+    """Whether the move of hand 0 from start to end, which may go, reaches the goal."""
     game, standing = position.game, standing_behind(position, start, end)
     if game.goal[0] == "hold":
         # Few moves leave the other lord struck, and this is told sooner than whether it is held.
-        is_near = position.turn == 0 and is_struck_there(game, standing, position.lords[1], 0)
-        return is_near and is_held(done(position, (start, end)))
+        return is_struck_there(game, standing, position.lords[1], 0) and is_held(done(position, (start, end)))
     return is_goal_of(game, [thing for thing in standing.values() if thing != "stone"])
 
 
@@ -126,11 +125,20 @@ def can_go(position, start, end):
     return strikes(position.game, position.standing, position.standing[start], end)
 
 
+def leaps_of(position, start):
+    """The squares to which the leaps of the piece on start lead, ascending."""
+    column, row = start
+    return [(column + across, row + up) for across, up in kind_on(position, start).leaps]
+
+
+def can_leap_to(position, end):
+    """Whether a leap of the hand whose turn it is that leads to the square may go."""
+    return can_be_struck(position, end) and is_open(position, end)
+
+
 def leaps_from(position, start):
     """The squares to which the leaps of the piece on start may go, ascending."""
-    column, row = start
-    ends = [(column + across, row + up) for across, up in kind_on(position, start).leaps]
-    return [end for end in ends if can_be_struck(position, end) and is_open(position, end)]
+    return [end for end in leaps_of(position, start) if can_leap_to(position, end)]
 
 
 def ahead(square, ride, many):
@@ -200,8 +208,8 @@ def has_let(position):
 
 def can_move_safely(position, start):
     """Whether a move of the piece on start is let."""
-    for end in leaps_from(position, start):
-        if is_safe(position, start, end):
+    for end in leaps_of(position, start):
+        if can_leap_to(position, end) and is_safe(position, start, end):
             return True
     for ride in kind_on(position, start).rides:
         for end in enough_of(position, start, ride):

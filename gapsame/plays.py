@@ -101,9 +101,8 @@ def carried_book(one, other, n, book):
     later, other_later = done(one, move), done(other, there)
     books = {}
     for answer, last in answers:
-        # Answers that are matched with one another may have one and the same there.
+        # Answers that are matched with one another may have one and the same there: it is told once.
         answer_there = matched(later, other_later, 3, answer)
-        if answer_there not in books:
-            behind = done(later, answer), done(other_later, answer_there)
-            books[answer_there] = carried_book(*behind, 1, last)
+        behind = done(later, answer), done(other_later, answer_there)
+        books[answer_there] = carried_book(*behind, 1, last)
     return there, [(answer, books[answer]) for answer in books]

@@ -35,8 +35,9 @@ def strikes(game, standing, piece, square):
     """Whether the piece strikes the square, one that can be struck, where this is what stands."""
     _, name, column, row = piece
     across, up = square[0] - column, square[1] - row
-    kind = game.table[name]
-    if (across, up) in kind.leaps:
+    kind, most = game.table[name], game.farthest
+    # Most squares are farther away than any leap leads, which is told sooner than whether one of them leads there.
+    if -most <= across <= most and -most <= up <= most and (across, up) in kind.leaps:
         return True
     return ride_to(across, up) in kind.rides and is_clear(standing, (column, row), square)
 

@@ -13,14 +13,16 @@ from pairs import FAR, telling_moves
 from reference import AROUND, RIDES, bound_of, gaps_along, parts
 
 KINDS = {
-    "chief": Kind("chief", AROUND, (), True), "runner": Kind("runner", [], RIDES), "sled": Kind("sled", [], ["left", "down"]),
+    "chief": Kind("chief", AROUND, (), True), "runner": Kind("runner", [], RIDES),
+    "sled": Kind("sled", [], ["left", "down"]),
     "cart": Kind("cart", AROUND[:3], ["right", "up"]), "hop": Kind("hop", AROUND), "post": Kind("post", [(1, 0)]),
 }
 
 
 def all_let(position, n):
     """Let moves, all there are but for some that are matched, for 2 n, with one of these."""
-    return sorted({move for move in telling_moves(position, bound_of(position.game, 2 * n - 1)) if is_let(position, move)})
+    moves = telling_moves(position, bound_of(position.game, 2 * n - 1))
+    return sorted({move for move in moves if is_let(position, move)})
 
 
 def wins(position, n):
@@ -44,7 +46,8 @@ def is_listed(position, n, m, moves):
     behind = [(move[0], done(position, move)) for move in moves]
     for move in all_let(position, n):
         later = done(position, move)
-        if move not in moves and not any(start == move[0] and parts(later, other, m - 1) is None for start, other in behind):
+        if move not in moves and not any(start == move[0] and parts(later, other, m - 1) is None for start,
+                                         other in behind):
             return False
     return True
 
@@ -55,8 +58,9 @@ def is_pair(value):
 
 def is_plain_move(value):
     """Whether it is a pair of pairs of integers."""
-    return is_pair(value) and all(is_pair(square) and all(isinstance(part, int) and part is not True and part is not False
-                                                          for part in square) for square in value)
+    if not is_pair(value) or not all(is_pair(square) for square in value):
+        return False
+    return all(isinstance(part, int) and not isinstance(part, bool) for square in value for part in square)
 
 
 def tuples(value):
@@ -135,7 +139,7 @@ def some_lines(chance, edges, gaps):
 
 
 def some_contest(chance, many_gaps, gaps, many=4):
-    """Some position in which hand 0 has the turn, of the kinds above, one piece of which rides; None if there is no room."""
+    """Some position of the kinds above in which hand 0 has the turn, one piece of which rides; None for no room."""
     sides = [chance.random() < 0.5 for _ in range(4)]
     columns, left, right = some_lines(chance, sides[:2], [chance.choice(gaps) for _ in range(many_gaps)])
     rows, low, high = some_lines(chance, sides[2:], [chance.choice(gaps) for _ in range(many_gaps)])
@@ -158,7 +162,8 @@ def some_contest(chance, many_gaps, gaps, many=4):
     if len(pieces) < many and chance.random() < 0.6:
         pieces.append((0, "chief", *squares.pop()))
     while len(pieces) < many:
-        pieces.append((0 if goal[0] == "take" else chance.randint(0, 1), chance.choice(["hop", "post"]), *squares.pop()))
+        pieces.append((0 if goal[0] == "take" else chance.randint(0, 1), chance.choice(["hop", "post"]),
+                       *squares.pop()))
     kinds = [KINDS[name] for name in ("chief", "hop", "post", rider)]
     return Position(Game(kinds, (left, right, low, high), goal), pieces, [squares.pop()][:chance.randint(0, 1)])
 

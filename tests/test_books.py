@@ -29,22 +29,32 @@ BOOKS = {
     "with three": (A, ((B, (C, ())), (B, (A, ())), (D, (D, ())))),
 }
 REFUSALS = {
-    "none": (), "one": ((A, ()),), "three": ((A, ()), (A, ()), (D, ())), "no answer": ((A, None),), "no answers": ((A, None), (B, None)),
+    "none": (), "one": ((A, ()),), "three": ((A, ()), (A, ()), (D, ())), "no answer": ((A, None),),
+    "no answers": ((A, None), (B, None)),
     "answer": ((A, (B, ())),), "answers": ((A, (B, ((C, ()), (D, ())))), (B, None), (D, (A, ((A, ()),))), (C, (C, ()))),
 }
 NO_BOOKS = {
-    "answers of answers": (A, ((B, (C, ((A, (B, ())),))),)), "none": (), "move": A, "one item": (A,), "three items": (A, (), ()),
+    "answers of answers": (A, ((B, (C, ((A, (B, ())),))),)), "none": (), "move": A, "one item": (A,),
+    "three items": (A, (), ()),
     "answer without a book": (A, ((B,),)), "answer and move": (A, ((B, C),)), "answer and None": (A, ((B, None),)),
-    "answer alone": (A, (B,)), "book for a pair": (A, (B, (C, ()))), "true": (((True, 0), (0, 1)), ()), "false": (A, ((((0, False), (0, 1)), (C, ())),)),
-    "false behind": (A, ((B, (((0, 0), (0, False)), ())),)), "None": (A, None), "number": (A, 0), "pairs and None": (A, ((B, (C, ())), None)),
-    "refusal": ((A, ()),), "none behind": (A, ((B, ()),)), "one too many": (A, ((B, (C, ()), ()),)), "string": (A, ""), "text": "((0, 0), (0, 1)), ()",
+    "answer alone": (A, (B,)), "book for a pair": (A, (B, (C, ()))), "true": (((True, 0), (0, 1)), ()),
+    "false": (A, ((((0, False), (0, 1)), (C, ())),)),
+    "false behind": (A, ((B, (((0, 0), (0, False)), ())),)), "None": (A, None), "number": (A, 0),
+    "pairs and None": (A, ((B, (C, ())), None)),
+    "refusal": ((A, ()),), "none behind": (A, ((B, ()),)), "one too many": (A, ((B, (C, ()), ()),)), "string": (A, ""),
+    "text": "((0, 0), (0, 1)), ()",
 }
 NO_REFUSALS = {
-    "mixed with None": ((A, ()), (B, None)), "mixed with a pair": ((A, (B, ())), (C, ())), "one item": ((A,),), "three items": ((A, (), ()),),
-    "a move": (A,), "nothing": ((),), "None": (None,), "true": ((((0, 0), (0, True)), ()),), "true in an answer": ((A, (((True, 0), (0, 0)), ())),),
-    "true behind": ((A, (B, ((((0, 0), (True, 0)), ()),))),), "replies behind": ((A, (B, ((C, (D, ())),))),), "None behind": ((A, (B, ((C, None),))),),
-    "None for a refusal": ((A, (B, None)),), "answer alone": ((A, (B,)),), "answer as it is": ((A, B),), "book": (A, ()), "string": ((A, ""),),
-    "zero": ((A, 0),), "false": ((A, False),), "answer and two": ((A, (B, (), ())),), "dict": ((A, {}),), "empty string": "",
+    "mixed with None": ((A, ()), (B, None)), "mixed with a pair": ((A, (B, ())), (C, ())), "one item": ((A,),),
+    "three items": ((A, (), ()),),
+    "a move": (A,), "nothing": ((),), "None": (None,), "true": ((((0, 0), (0, True)), ()),),
+    "true in an answer": ((A, (((True, 0), (0, 0)), ())),),
+    "true behind": ((A, (B, ((((0, 0), (True, 0)), ()),))),), "replies behind": ((A, (B, ((C, (D, ())),))),),
+    "None behind": ((A, (B, ((C, None),))),),
+    "None for a refusal": ((A, (B, None)),), "answer alone": ((A, (B,)),), "answer as it is": ((A, B),),
+    "book": (A, ()), "string": ((A, ""),),
+    "zero": ((A, 0),), "false": ((A, False),), "answer and two": ((A, (B, (), ())),), "dict": ((A, {}),),
+    "empty string": "",
 }
 
 
@@ -139,7 +149,8 @@ class Forms(unittest.TestCase):
 
 class Courses(unittest.TestCase):
     def test_books(self):
-        wanted = {"one": ((A,),), "far": ((D,),), "with an answer": ((A, B, C),), "with three": ((A, B, C), (A, B, A), (A, D, D))}
+        wanted = {"one": ((A,),), "far": ((D,),), "with an answer": ((A, B, C),),
+                  "with three": ((A, B, C), (A, B, A), (A, D, D))}
         for name, book in BOOKS.items():
             self.assertEqual(courses(Won(book)), wanted[name])
             self.assertEqual(courses(paper=Won(lists(book))), wanted[name])
@@ -154,8 +165,10 @@ class Courses(unittest.TestCase):
             self.assertEqual(courses(Unwon(lists(refusal))), wanted[name])
 
     def test_refused(self):
-        papers = [Won(REFUSALS["answers"]), Unwon(BOOKS["one"]), Unwon(BOOKS["with an answer"]), Paper("won", BOOKS["one"]), Denial("unwon", ()),
-                  Alike(), Unlike("turn"), Unlike(()), Won(Won(BOOKS["one"])), Unwon(Unwon(())), Subwon(BOOKS["one"]), Subunwon(())]
+        papers = [Won(REFUSALS["answers"]), Unwon(BOOKS["one"]), Unwon(BOOKS["with an answer"]),
+                  Paper("won", BOOKS["one"]), Denial("unwon", ()),
+                  Alike(), Unlike("turn"), Unlike(()), Won(Won(BOOKS["one"])), Unwon(Unwon(())), Subwon(BOOKS["one"]),
+                  Subunwon(())]
         papers += [Won(value) for value in NO_BOOKS.values()] + [Unwon(value) for value in NO_REFUSALS.values()]
         papers += [Won(value) for value in NO_LISTS] + [Unwon(value) for value in NO_LISTS]
         for value in (*papers, *NO_LISTS, *BOOKS.values(), *REFUSALS.values(), Won, Unwon):
@@ -179,7 +192,8 @@ class Papers(unittest.TestCase):
         self.assertTrue(issubclass(Won, Paper) and not issubclass(Won, Denial) and issubclass(Unwon, Denial))
 
     def test_equal(self):
-        papers = [Won(()), Unwon(()), Won((A, ())), Unwon((A, ())), Paper("won", ()), Denial("unwon", ()), Won(None), Subwon(()), Denial("won", ())]
+        papers = [Won(()), Unwon(()), Won((A, ())), Unwon((A, ())), Paper("won", ()), Denial("unwon", ()), Won(None),
+                  Subwon(()), Denial("won", ())]
         for (at, one), (there, other) in product(enumerate(papers), repeat=2):
             self.assertIs(one == other, at == there)
             self.assertIs(one != other, at != there)

@@ -8,12 +8,13 @@ from examples import assert_raises, run_examples
 from gapsame import check_wins
 from gapsame.books import Unwon, Won, courses
 from gapsame.check_wins import shows_win
+from gapsame.chosen import chosen_moves
 from gapsame.errors import BadNumber, BadPosition, Misfit
 from gapsame.games import Game
 from gapsame.kinds import Kind
 from gapsame.likeness import Alike, Unlike
 from gapsame.matching import is_matched, matched
-from gapsame.moves import done
+from gapsame.moves import done, reached
 from gapsame.papers import Denial, Paper
 from gapsame.positions import Position
 from gapsame.wins import judged
@@ -34,12 +35,16 @@ GUARD, TOWER = Kind("guard", CHIEF.leaps, (), True), SLED
 CORNER = Game([GUARD, Kind("tower", [], ["left", "down"])], (0, None, 0, None))
 PINNED = Position(CORNER, [(1, "guard", 1, 0), (0, "guard", 1, 2), (0, "tower", FAR, 5)], [(FAR, 3)])
 GAME = Game([CHIEF, RUNNER])
-HELD = Position(GAME, [(1, "chief", 0, 0), (0, "runner", 10 ** 30, -1), (0, "runner", -10 ** 30, 1), (0, "runner", 7, 5)])
+HELD = Position(GAME, [(1, "chief", 0, 0), (0, "runner", 10 ** 30, -1), (0, "runner", -10 ** 30, 1),
+                       (0, "runner", 7, 5)])
 LONE = Position(GAME, [(1, "chief", 0, 0), (0, "runner", 10 ** 30, -1), (0, "runner", 7, 5)])
 CHASE = Position(Game([SLED, POST], goal=("take", "post")), [(0, "sled", FAR, 7), (1, "post", 0, 0)])
+# Hand 1 has a runner besides, which goes as far as it likes.
+WIDE = Position(Game([SLED, POST, RUNNER], goal=("take", "post")), [(0, "sled", FAR, 7), (1, "post", 0, 0), (1, "runner", -9, -FAR)])
 # The post can make one move alone, and the goal is out of reach.
 BARRED = Position(Game([SLED, POST], goal=("take", "post")), [(0, "sled", 3, 7), (1, "post", 9, 0)])
-NAMES = {"far": HELD, "lone": LONE, "pinned": PINNED, "corner": CORNER, "Position": Position, "Won": Won, "Unwon": Unwon, "judged": judged}
+NAMES = {"far": HELD, "lone": LONE, "pinned": PINNED, "corner": CORNER, "Position": Position, "Won": Won,
+         "Unwon": Unwon, "judged": judged}
 
 
 class Subwon(Won):
@@ -89,7 +94,8 @@ class Shown(unittest.TestCase):
             for position in self.some(many, n):
                 paper = judged(position, n)
                 moves = self.chance.sample(all_let(position, 1), min(3, len(all_let(position, 1))))
-                others = ((), None, 0, True, (), *moves, *[(move, ()) for move in moves], *[(move, None) for move in moves])
+                others = ((), None, 0, True, (), *moves, *[(move, ()) for move in moves],
+                          *[(move, None) for move in moves])
                 bent = list(ways_bent(paper.parts[0], others))
                 for part in self.chance.sample(bent, min(len(bent), 90)):
                     counts[self.assert_shown(position, n, made_again(paper, part))] += 1
@@ -159,7 +165,8 @@ class Shown(unittest.TestCase):
                     self.assertTrue(is_matched(position, position, 2, move, there))
                     replies.append((there, ()))
                 found += replies != list(paper.replies)
-                self.assertIs(shows_win(position, 1, Unwon(replies)), len({move for move, _ in replies}) == len(replies))
+                self.assertIs(shows_win(position, 1, Unwon(replies)),
+                              len({move for move, _ in replies}) == len(replies))
         self.assertGreater(found, 3)
 
 
@@ -178,12 +185,17 @@ class Told(unittest.TestCase):
         first, answer, last = ((FAR, 7), (1, 7)), ((0, 0), (1, 0)), ((1, 7), (1, 0))
         pair = (answer, (last, ()))
         wrong = {
-            "no answers": (first, ()), "twice": (first, (pair, pair)), "None": (first, None), "no answer": (first, ((None, (last, ())),)),
-            "no let answer": (first, ((((0, 0), (2, 0)), (last, ())),)), "one more, not let": (first, (pair, (((0, 0), (0, 1)), (last, ())))),
+            "no answers": (first, ()), "twice": (first, (pair, pair)), "None": (first, None),
+            "no answer": (first, ((None, (last, ())),)),
+            "no let answer": (first, ((((0, 0), (2, 0)), (last, ())),)),
+            "one more, not let": (first, (pair, (((0, 0), (0, 1)), (last, ())))),
             "no last one": (first, ((answer, ()),)), "last one elsewhere": (first, ((answer, (((1, 7), (1, 1)), ())),)),
-            "last one not let": (first, ((answer, (((1, 7), (2, 0)), ())),)), "last one of hand 1": (first, ((answer, (((1, 0), (2, 0)), ())),)),
-            "first one elsewhere": (((FAR, 7), (2, 7)), (pair,)), "first one of hand 1": (answer, (pair,)), "first one not let": (((FAR, 7), (1, 8)), (pair,)),
-            "answers behind the last one": (first, ((answer, (last, (pair,))),)), "None behind the last one": (first, ((answer, (last, None)),)),
+            "last one not let": (first, ((answer, (((1, 7), (2, 0)), ())),)),
+            "last one of hand 1": (first, ((answer, (((1, 0), (2, 0)), ())),)),
+            "first one elsewhere": (((FAR, 7), (2, 7)), (pair,)), "first one of hand 1": (answer, (pair,)),
+            "first one not let": (((FAR, 7), (1, 8)), (pair,)),
+            "answers behind the last one": (first, ((answer, (last, (pair,))),)),
+            "None behind the last one": (first, ((answer, (last, None)),)),
             "a pair too long": (first, ((answer, (last, ()), ()),)), "no first one": (None, (pair,)),
         }
         self.assertIs(shows_win(CHASE, 2, Won((first, (pair,)))), True)
@@ -192,6 +204,53 @@ class Told(unittest.TestCase):
             with self.subTest(book=name):
                 self.assertIs(shows_win(CHASE, 2, Won(book)), False)
                 self.assertIs(shows_win(CHASE, 2, Won(lists(book))), False)
+
+    def test_answers_that_do_for_less(self):
+        """An answer that only for 2, not for 3, is matched with another one must not be left out."""
+        first = ((FAR, 7), (FAR, 0))
+        later = done(WIDE, first)
+        answers = [(answer, judged(done(later, answer), 1).book) for answer in chosen_moves(later, 3)]
+        self.assertIs(shows_win(WIDE, 2, Won((first, answers))), True)
+        for at, (answer, _) in enumerate(answers):
+            rest = answers[:at] + answers[at + 1:]
+            self.assertIs(shows_win(WIDE, 2, Won((first, rest))), False, answer)
+        few = [(answer, judged(done(later, answer), 1).book) for answer in chosen_moves(later, 2)]
+        self.assertLess(len(few), len(answers))
+        self.assertIs(shows_win(WIDE, 2, Won((first, few))), False)
+
+    def test_moves_that_do_for_less(self):
+        """Of a refusal within n the moves do for 2 n."""
+        for n, position in ((1, LONE), (2, BARRED), (2, Position(WIDE.game, [(0, "sled", FAR, 7), (1, "post", 9, 8)]))):
+            told = dict(judged(position, n).replies)
+            for m in range(1, 2 * n):
+                few = [move for move in chosen_moves(position, m) if move in told]
+                self.assertIs(shows_win(position, n, Unwon([(move, told[move]) for move in few])), False)
+            most = chosen_moves(position, 2 * n)
+            self.assertIs(shows_win(position, n, Unwon([(move, told[move]) for move in most if move in told])), True)
+
+    def test_no_answer_behind_the_move(self):
+        """A book without answers whose move does not reach the goal, as hand 1 has no let move behind it."""
+        box = Position(BARRED.game, [(0, "sled", 5, 2), (1, "post", 0, 0)], [(1, 0)])
+        for move in all_let(box, 2):
+            for answers in ((), ((((0, 0), (1, 0)), (((5, 2), (5, 1)), ())),)):
+                self.assertIs(shows_win(box, 2, Won((move, answers))), False)
+
+    def test_refusals_of_what_is_won(self):
+        """All let moves, those that reach the goal as well, with the replies that would be right else, make no refusal."""
+        for position in (HELD, Position(CHASE.game, [(0, "sled", 3, 0), (1, "post", 0, 0)])):
+            moves = all_let(position, 2)
+            self.assertIs(shows_win(position, 1, Unwon([(move, ()) for move in moves])), False)
+            replies = [(move, self.reply_behind(done(position, move))) for move in moves]
+            self.assertIs(shows_win(position, 2, Unwon(replies)), False)
+            for rest in (replies[1:], replies[:-1], [pair for pair in replies if not reached(done(position, pair[0]))]):
+                self.assertIs(shows_win(position, 2, Unwon(rest)), False)
+
+    def reply_behind(self, position):
+        for answer in all_let(position, 2):
+            paper = judged(done(position, answer), 1)
+            if not paper:
+                return answer, paper.replies
+        return None
 
     def test_goal_reached_with_answers(self):
         move = ((7, 5), (7, 0))
@@ -208,7 +267,8 @@ class Told(unittest.TestCase):
         self.assertIs(shows_win(BARRED, 2, Unwon(replies)), True)
         near = [pair for pair in rest if pair[0] != ((2, 7), (2, 1))]
         self.assertEqual((move, len(near)), (((3, 7), (2, 7)), len(rest) - 1))
-        for reply in ((), None, (answer,), (answer, None), (answer, near), (answer, rest + rest[:1]), (((9, 0), (9, 1)), rest), (move, rest),
+        for reply in ((), None, (answer,), (answer, None), (answer, near), (answer, rest + rest[:1]),
+                      (((9, 0), (9, 1)), rest), (move, rest),
                       (answer, rest, ()), rest, answer, [answer, [list(pair) + [()] for pair in rest]]):
             self.assertIs(shows_win(BARRED, 2, Unwon(((move, reply),) + replies[1:])), False)
         # On column 1 the sled is far from all there is, and likewise on row 6.
@@ -243,8 +303,10 @@ class Told(unittest.TestCase):
 
     def test_values_of_no_such_class(self):
         book, replies = judged(HELD, 1).book, judged(LONE, 1).replies
-        for value in (*NO_LISTS, *NO_MOVES, book, replies, Paper("won", book), Denial("unwon", replies), Denial("won", book), Alike(), Unlike("game"),
-                      Subwon(book), Won(Won(book)), Unwon(Unwon(replies)), Won, Unwon, Unwon(book), Won(replies), Won(None), Unwon(None), [Won(book)]):
+        for value in (*NO_LISTS, *NO_MOVES, book, replies, Paper("won", book), Denial("unwon", replies),
+                      Denial("won", book), Alike(), Unlike("game"),
+                      Subwon(book), Won(Won(book)), Unwon(Unwon(replies)), Won, Unwon, Unwon(book), Won(replies),
+                      Won(None), Unwon(None), [Won(book)]):
             for n in (1, 2):
                 self.assertIs(shows_win(HELD, n, value), False)
                 self.assertIs(shows_win(LONE, n, value), False)
@@ -252,7 +314,8 @@ class Told(unittest.TestCase):
     def test_true_and_false_are_no_numbers(self):
         position = Position(Game([SLED, POST], goal=("take", "post")), [(0, "sled", 1, 0), (1, "post", 0, 0)])
         self.assertIs(shows_win(position, 1, Won((((1, 0), (0, 0)), ()))), True)
-        for move in (((True, 0), (0, 0)), ((1, False), (0, 0)), ((1, 0), (False, 0)), ((1, 0), (0, False)), ((1.0, 0), (0, 0))):
+        for move in (((True, 0), (0, 0)), ((1, False), (0, 0)), ((1, 0), (False, 0)), ((1, 0), (0, False)),
+                     ((1.0, 0), (0, 0))):
             self.assertIs(shows_win(position, 1, Won((move, ()))), False)
 
     def test_courses_of_what_is_right(self):

@@ -188,6 +188,37 @@ class Language(unittest.TestCase):
             if isinstance(node.func, ast.Attribute):
                 self.assertTrue(node.func.attr in METHODS or node.func.attr in own, f"{place}: {node.func.attr}")
 
+    def test_stars_in_calls(self):
+        plain = (ast.Name, ast.Constant, ast.List, ast.Tuple)
+        for place, node in self.each(ast.Call):
+            for part in node.args:
+                if isinstance(part, ast.Starred):
+                    is_attribute = isinstance(part.value, ast.Attribute) and isinstance(part.value.value, ast.Name)
+                    self.assertTrue(is_attribute or isinstance(part.value, plain), place)
+            for part in node.keywords:
+                self.assertIsNotNone(part.arg, place)
+
+    def test_methods_and_attributes_are_apart(self):
+        methods = {node.name for _, node in self.each(ast.FunctionDef) if isinstance(node.above, ast.ClassDef)}
+        attributes = {node.attr for _, node in self.each(ast.Attribute) if isinstance(node.ctx, ast.Store)}
+        self.assertEqual(methods & attributes, set())
+        for place, node in self.each(ast.Attribute):
+            self.assertTrue(node.attr in attributes | methods | METHODS | {"__class__", "__name__"}, place)
+
+    def test_tables_are_read_by_items_alone(self):
+        """A dict of a module is asked for an item or whether one is in it, iterated over, or copied."""
+        for name, tree in self.trees.items():
+            assigned = [node for node in tree.body if isinstance(node, ast.Assign)]
+            tables = [node.targets[0].id for node in assigned if isinstance(node.value, (ast.Dict, ast.List))]
+            for node in ast.walk(tree):
+                if isinstance(node, ast.Name) and node.id in tables and isinstance(node.ctx, ast.Load):
+                    above = node.above
+                    if isinstance(above, ast.Call):
+                        self.assertIn(getattr(above.func, "id", ""), ("dict", "list", "len", "sorted"))
+                    else:
+                        self.assertIsInstance(above, (ast.Subscript, ast.Compare, ast.comprehension, ast.For))
+                        self.assertIsInstance(getattr(above, "ctx", ast.Load()), ast.Load, f"{name}.py:{node.lineno}")
+
     def test_raised_on_the_spot(self):
         for place, node in self.each(ast.Raise):
             if node.exc is not None:

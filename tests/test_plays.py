@@ -53,14 +53,17 @@ CORNER = Game([CHIEF, RUNNER], (0, None, 0, None))
 HELD = Position(CORNER, [(1, "chief", 0, 0), (0, "chief", 2, 1), (0, "runner", FAR, FAR)])
 OPEN = Position(CORNER, [(1, "chief", 5, 5), (0, "chief", 9, 1), (0, "runner", FAR, FAR)])
 # Hand 1 has a runner that goes as far as it likes, and hand 0 takes another piece within 2, whatever that runner does.
-WIDE = Position(Game([SLED, POST, RUNNER], goal=("take", "post")), [(0, "sled", FAR, 7), (1, "post", 0, 0), (1, "runner", -9, -FAR)])
+WIDE = Position(Game([SLED, POST, RUNNER], goal=("take", "post")),
+                [(0, "sled", FAR, 7), (1, "post", 0, 0), (1, "runner", -9, -FAR)])
 
 
 def won_contests():
     """Some positions with each n within which they are won, but not within less."""
     chance = random.Random(401)
-    short = some_contests(chance, 80, 3, (1, 1, 2, 7, 8, 9, FAR)) + some_holds(chance, 200, (0, 1, 2, 8, 9, 10, 20, FAR))
-    long = some_contests(chance, 150, 3, (1, 1, 1, 2, 33, FAR)) + some_holds(chance, 80, (0, 1, 2, 5, 33, 34, 35, 36, FAR))
+    short = some_contests(chance, 80, 3, (1, 1, 2, 7, 8, 9, FAR))
+    short += some_holds(chance, 200, (0, 1, 2, 8, 9, 10, 20, FAR))
+    long = some_contests(chance, 150, 3, (1, 1, 1, 2, 33, FAR))
+    long += some_holds(chance, 80, (0, 1, 2, 5, 33, 34, 35, 36, FAR))
     found = [(1, position) for position in short if is_won(position, 1)]
     return found + [(2, position) for position in long if not is_won(position, 1) and is_won(position, 2)]
 
@@ -116,9 +119,24 @@ class Carried(unittest.TestCase):
         self.assert_carried(WIDE, near, 2, Won(book))
         self.assert_carried(near, WIDE, 2, judged(near, 2))
 
+    def test_first_moves_as_near_as_they_were(self):
+        """Of a book within 2 a first move 15 squares off a line is carried to one just as far off."""
+        game = Game([SLED, POST], (0, None, None, None), ("reach", "left", "sled"))
+        one, other = [Position(game, [(0, "sled", far, 7), (1, "post", 9, high)], [(0, 7)]) for far, high in ((FAR, 60), (99, FAR))]
+        for row in (8, -1, -8, -9, -50):
+            first, answer = ((FAR, 7), (FAR, row)), ((9, 60), (10, 60))
+            paper = Won((first, [(answer, (((FAR, row), (0, row)), ()))]))
+            if row == 8:
+                assert_raises(self, BadPaper("paper"), carried, one, other, 2, paper)
+            else:
+                there = self.assert_carried(one, other, 2, paper)
+                self.assertEqual(there.book[0], ((99, 7), (99, max(row, -9))))
+                self.assertEqual(there.book[1][0][0], ((9, FAR), (10, FAR)))
+
     def test_papers_refused(self):
         book, other = judged(HELD, 1).book, cut(HELD, 4)
-        papers = (None, book, Won(None), Won(()), Won(book[:1]), Won(((book[0][0], (FAR, 0)), ())), Unwon(()), Unwon(book), Paper("won", book),
+        papers = (None, book, Won(None), Won(()), Won(book[:1]), Won(((book[0][0], (FAR, 0)), ())), Unwon(()),
+                  Unwon(book), Paper("won", book),
                   judged(CHASE, 2), *NO_LISTS)
         for paper in papers:
             for n in (1, 2):
@@ -160,7 +178,8 @@ class Carried(unittest.TestCase):
 
 class Plays(unittest.TestCase):
     def test_examples(self):
-        run_examples(self, EXAMPLES, {"Kind": Kind, "Game": Game, "Position": Position, "cut": cut, "judged": judged, **vars(plays)})
+        run_examples(self, EXAMPLES, {"Kind": Kind, "Game": Game, "Position": Position, "cut": cut, "judged": judged,
+                                      **vars(plays)})
 
     def assert_stands(self, play, position, left, is_over):
         """That the play is at this position, and what it is to do holds there."""
@@ -286,7 +305,8 @@ class RefusedMoves(unittest.TestCase):
     def test_a_move_that_is_not_let(self):
         """The hop may go aside, but then its chief is struck."""
         game = Game([CHIEF, RUNNER, SLED, POST, HOP], goal=("take", "post"))
-        pieces = [(0, "sled", FAR, 7), (1, "post", 0, 0), (1, "chief", 50, 50), (1, "hop", 50, 40), (0, "runner", 50, -30)]
+        pieces = [(0, "sled", FAR, 7), (1, "post", 0, 0), (1, "chief", 50, 50), (1, "hop", 50, 40),
+                  (0, "runner", 50, -30)]
         play = Play(Position(game, pieces), 2)
         play.reply()
         self.assertFalse(play.is_over)

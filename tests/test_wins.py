@@ -13,6 +13,7 @@ from gapsame.kinds import Kind
 from gapsame.likeness import cut
 from gapsame.moves import done, is_held, is_let, is_still, reached
 from gapsame.positions import Position
+from gapsame.turns import mirrored
 from gapsame.wins import is_won, judged
 from pairs import alike_pairs
 from reference import NO_POSITIONS, no_numbers, some_position
@@ -81,7 +82,8 @@ class Judged(Judging, unittest.TestCase):
         self.assert_all_judged(some_contests(self.chance, 40, 3, (1, 1, 2)), 2, 10)
         self.assert_all_judged(some_contests(self.chance, 25, 3, (1, 1, 1), 5), 2, 5)
         self.assert_all_judged(some_holds(self.chance, 100, (0, 1, 2, 3, 4, 5, 6)), 1, 4)
-        self.assert_all_judged([position for position in some_holds(self.chance, 90, (0, 1, 2, 3, 4)) if position.game.edges[1]], 2, 4)
+        holds = some_holds(self.chance, 90, (0, 1, 2, 3, 4))
+        self.assert_all_judged([position for position in holds if position.game.edges[1]], 2, 4)
 
     def test_closed_fields_of_all_kinds(self):
         found = []
@@ -130,11 +132,13 @@ class Goals(Judging, unittest.TestCase):
             self.assert_judged(made([CHIEF, RUNNER], pieces, [(-1, 0)], edge), 1, True)
             self.assert_judged(made([CHIEF, RUNNER], pieces, [(2, 0)], edge), 1, False)
             self.assert_judged(made([CHIEF, RUNNER], pieces + [(0, "chief", 3, 3)], edges=edge), 1, True)
-            self.assert_judged(made([CHIEF, RUNNER], pieces + [(0, "chief", 3, 3), (1, "runner", 3, 9)], edges=edge), 1, False)
+            self.assert_judged(made([CHIEF, RUNNER], pieces + [(0, "chief", 3, 3), (1, "runner", 3, 9)], edges=edge), 1,
+                               False)
 
     def test_still_is_not_held(self):
         """Behind some moves of the sled hand 1 has no let move, but its chief is not struck."""
-        position = made([CHIEF, SLED], [(1, "chief", 0, 0), (0, "sled", 1, FAR), (0, "sled", FAR, 3)], [(0, 2)], (0, None, 0, None))
+        position = made([CHIEF, SLED], [(1, "chief", 0, 0), (0, "sled", 1, FAR), (0, "sled", FAR, 3)], [(0, 2)],
+                        (0, None, 0, None))
         move = ((FAR, 3), (FAR, 1))
         still = done(position, move)
         self.assertTrue(is_still(still) and not is_held(still) and not reached(still))
@@ -151,10 +155,22 @@ class Goals(Judging, unittest.TestCase):
     def test_held_behind_a_move_is_unwon(self):
         """The goal is to reach, so that a hand 1 which is held only ends it."""
         game = Game([CHIEF, RUNNER, SLED], (0, None, 0, None), ("reach", "low", "sled"))
-        position = Position(game, [(1, "chief", 0, 0), (0, "runner", 1, FAR), (0, "runner", FAR, 2), (0, "sled", 7, 1)], [(7, 0)])
+        position = Position(game, [(1, "chief", 0, 0), (0, "runner", 1, FAR), (0, "runner", FAR, 2), (0, "sled", 7, 1)],
+                            [(7, 0)])
         held = done(position, ((FAR, 2), (0, 2)))
         self.assertTrue(is_held(held) and not reached(held))
         self.assertIsNone(dict(self.assert_judged(position, 2, False).replies)[((FAR, 2), (0, 2))])
+        self.assert_judged(position, 1, False)
+
+    def test_just_as_near_as_a_leap_wants(self):
+        """Of all squares of the row just one wins: the cart rides at the chief, and leaps to where this could go."""
+        cart = Kind("cart", [(1, -1)], ["right"])
+        for far in (3, 4, 9, 40, FAR):
+            position = made([CHIEF, cart], [(1, "chief", 0, 0), (0, "cart", -far, 0)], [(0, -1)], (None, 0, None, 0))
+            self.assertEqual(self.assert_judged(position, 1, True).book, (((-far, 0), (-2, 0)), ()))
+            there = mirrored(position)
+            self.assertEqual(self.assert_judged(there, 1, True).book, (((far, 0), (2, 0)), ()))
+        position = made([CHIEF, cart], [(1, "chief", 0, 0), (0, "cart", -2, 0)], [(0, -1)], (None, 0, None, 0))
         self.assert_judged(position, 1, False)
 
     def test_take(self):
@@ -166,7 +182,8 @@ class Goals(Judging, unittest.TestCase):
             self.assert_judged(made([SLED, POST], pieces[:1], goal=("take", "post")), 1, True)
 
     def test_take_of_a_lord_is_no_way(self):
-        position = made([CHIEF, SLED, POST], [(0, "sled", FAR, 0), (1, "chief", 0, 0), (1, "post", -1, 0)], goal=("take", "post"))
+        position = made([CHIEF, SLED, POST], [(0, "sled", FAR, 0), (1, "chief", 0, 0), (1, "post", -1, 0)],
+                        goal=("take", "post"))
         self.assert_judged(position, 1, False)
 
     def test_reach(self):
@@ -174,8 +191,10 @@ class Goals(Judging, unittest.TestCase):
             goal, edges = ("reach", "left", "sled"), (0, None, None, None)
             self.assert_judged(made([SLED], [(0, "sled", far, 0)], edges=edges, goal=goal), 1, True)
             self.assert_judged(made([SLED], [(0, "sled", far, 0)], [(0, 0)], edges, goal), 1, False)
-            self.assert_judged(made([SLED, POST], [(0, "sled", far, 0), (1, "post", 0, 0)], [(0, 5)], edges, goal), 1, True)
-            self.assert_judged(made([SLED, POST], [(0, "sled", far, 0), (1, "post", 9, 9)], [(0, 0)], edges, goal), 2, True)
+            self.assert_judged(made([SLED, POST], [(0, "sled", far, 0), (1, "post", 0, 0)], [(0, 5)], edges, goal), 1,
+                               True)
+            self.assert_judged(made([SLED, POST], [(0, "sled", far, 0), (1, "post", 9, 9)], [(0, 0)], edges, goal), 2,
+                               True)
             self.assert_judged(made([SLED], [(0, "sled", far, 0)], [(0, 0)], edges, goal), 2, False)
 
     def test_reached_before_and_behind(self):
@@ -189,13 +208,15 @@ class Goals(Judging, unittest.TestCase):
 
     def test_no_let_move(self):
         closed = made([CHIEF], [(1, "chief", 2, 0), (0, "chief", 0, 0)], edges=(0, 2, 0, 0))
-        pinned = made([CHIEF, RUNNER], [(0, "chief", 0, 0), (1, "chief", 9, 9), (1, "runner", FAR, 0), (1, "runner", -FAR, 1), (1, "runner", 5, -1)])
+        pinned = made([CHIEF, RUNNER], [(0, "chief", 0, 0), (1, "chief", 9, 9), (1, "runner", FAR, 0),
+                                        (1, "runner", -FAR, 1), (1, "runner", 5, -1)])
         for position in (closed, pinned):
             for n in (1, 2):
                 self.assertEqual(self.assert_judged(position, n, False).replies, ())
 
     def test_a_piece_that_bars_must_stay(self):
-        pieces = [(0, "chief", 0, 0), (0, "runner", 0, 5), (1, "runner", 0, FAR), (1, "hop", 9, 5), (1, "chief", 99, 99)]
+        pieces = [(0, "chief", 0, 0), (0, "runner", 0, 5), (1, "runner", 0, FAR), (1, "hop", 9, 5),
+                  (1, "chief", 99, 99)]
         position = made([CHIEF, RUNNER, HOP], pieces, goal=("take", "hop"))
         self.assertFalse(is_let(position, ((0, 5), (9, 5))))
         self.assert_judged(position, 1, False)
